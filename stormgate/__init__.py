@@ -1,0 +1,1 @@
+"""A storm over a polder: what gate and pumps do in each hour, and what it costs."""
