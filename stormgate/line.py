@@ -1,9 +1,10 @@
 """The calls of one line: they are about one storm, and each answers a list."""
 
 from stormgate.cheapest import best_plan
+from stormgate.lowest import least_high
 from stormgate.plans import check_plan
 from stormgate.refusals import no_more_hours, not_as_told
-from stormgate.storm import MOST_HOURS, Hour, Storm, hour_is_as_told, storm_is_as_told
+from stormgate.storm import MOST_HOURS, Hour, Storm, hour_is_as_told, storm_is_as_told, with_pumps, with_width
 
 
 class Line:
@@ -37,3 +38,15 @@ class Line:
     def best(self):
         """The cheapest plan that can be."""
         return best_plan(self.storm, self.hours)
+
+    def shut(self):
+        """The cheapest plan that can be, if nothing ran through the gate."""
+        return best_plan(with_width(self.storm, 0), self.hours)
+
+    def still(self):
+        """The cheapest plan that can be, if the pumps did nothing."""
+        return best_plan(with_pumps(self.storm, 0), self.hours)
+
+    def needs(self):
+        """How high the water has to be let stand at the least."""
+        return least_high(self.storm, self.hours)

@@ -6,6 +6,8 @@ BEGINS = 0
 HOUR = 1
 CHECK = 2
 BEST = 3
+SHUT = 4
+STILL = 5
 
 
 def answers(calls):
@@ -47,4 +49,8 @@ def answer_of_call(line, calls, at, behind):
         return line.check(calls[at + 2:behind])
     if calls[at] == BEST:
         return line.best()
-    raise NotImplementedError("only begins, hour, check and best are built")
+    if calls[at] == SHUT:
+        return line.shut()
+    if calls[at] == STILL:
+        return line.still()
+    return line.needs()

@@ -25,6 +25,21 @@ class Hour:
         self.price = price
 
 
+def with_width(storm, width):
+    """The same storm, but for the width of its gate."""
+    return Storm(storm.stands, storm.low, storm.high, storm.pumps, width, storm.salt)
+
+
+def with_pumps(storm, pumps):
+    """The same storm, but for what its pumps do."""
+    return Storm(storm.stands, storm.low, storm.high, pumps, storm.width, storm.salt)
+
+
+def with_high(storm, high):
+    """The same storm, but for how high the water may stand."""
+    return Storm(storm.stands, storm.low, high, storm.pumps, storm.width, storm.salt)
+
+
 def storm_is_as_told(numbers):
     """Whether the six numbers of begins, in its order, can be a storm's."""
     ends = [HIGHEST, HIGHEST, HIGHEST, 12, 100, 100]

@@ -21,6 +21,18 @@ def best():
     return [3]
 
 
+def shut():
+    return [4]
+
+
+def still():
+    return [5]
+
+
+def needs():
+    return [6]
+
+
 def told(*calls):
     """What each of the calls answers in one line of them all."""
     answered = answers([number for call in calls for number in call])

@@ -5,7 +5,7 @@ import time
 import unittest
 
 from lines import begins, best, check, hour, last, told
-from tried import by_counting, by_every_plan
+from tried import by_counting, by_every_plan, hours_by_chance, storm_by_chance
 
 
 class CheapestWay(unittest.TestCase):
@@ -138,20 +138,6 @@ class EdgesOfTheStorm(unittest.TestCase):
 
 
 class AgainstOtherWays(unittest.TestCase):
-    def storm_of(self, chance, pumps):
-        low = chance.randint(0, 12)
-        stands = chance.randint(0, 20)
-        return (
-            stands, low, low + chance.randint(0, 12), chance.randint(0, pumps),
-            chance.choice((0, 2, 5, 100)), chance.choice((0, 1, 3)),
-        )
-
-    def hours_of(self, chance, most):
-        return [
-            (chance.randint(0, 6), chance.randint(0, 25), chance.choice((0, 1, 2, 5)))
-            for number in range(chance.randint(0, most))
-        ]
-
     def best_of(self, storm, hours):
         return last(begins(*storm), *[hour(*numbers) for numbers in hours], best())
 
@@ -159,7 +145,7 @@ class AgainstOtherWays(unittest.TestCase):
         chance = random.Random(1)
         answered = {"refused": 0, "several": 0, "one": 0}
         for number in range(400):
-            storm, hours = self.storm_of(chance, 3), self.hours_of(chance, 3)
+            storm, hours = storm_by_chance(chance, 3), hours_by_chance(chance, 3)
             with self.subTest(storm=storm, hours=hours):
                 tried = by_every_plan(storm, hours)
                 self.assertEqual(self.best_of(storm, hours), tried)

@@ -18,7 +18,7 @@ FORMS = set(
     "Compare Eq NotEq Lt LtE Gt GtE Is IsNot In NotIn".split()
 )
 # L8, as far as the package calls for it.
-PYTHONS_OWN = set("len range enumerate zip min max reversed list NotImplementedError".split())
+PYTHONS_OWN = set("len range enumerate zip min max reversed list".split())
 # L25, as far as the package calls for it.
 PYTHONS_METHODS = {"append", "extend"}
 # L17: words that stand nowhere in a file.

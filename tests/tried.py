@@ -1,7 +1,25 @@
-"""The cheapest plan by other ways than the program's, to compare with."""
+"""Small storms by chance, and their answers by other ways than the program's."""
 
 from collections import Counter
 from itertools import product
+
+
+def storm_by_chance(chance, pumps):
+    """The six numbers of a storm with at most so many pumps."""
+    low = chance.randint(0, 12)
+    stands = chance.randint(0, 20)
+    return (
+        stands, low, low + chance.randint(0, 12), chance.randint(0, pumps),
+        chance.choice((0, 2, 5, 100)), chance.choice((0, 1, 3)),
+    )
+
+
+def hours_by_chance(chance, most):
+    """The three numbers of each of at most so many hours."""
+    return [
+        (chance.randint(0, 6), chance.randint(0, 25), chance.choice((0, 1, 2, 5)))
+        for number in range(chance.randint(0, most))
+    ]
 
 
 def after_hour(storm, hour, height, gate, pumped):
@@ -24,19 +42,59 @@ def after_hour(storm, hour, height, gate, pumped):
     return height, price * pumped + salt * salted
 
 
+def plans_of(storm, hours):
+    """Each plan that pumps no more than the pumps do, the earlier ahead."""
+    ways = [(gate, pumped) for gate in (0, 1) for pumped in range(storm[3] + 1)]
+    return product(ways, repeat=len(hours))
+
+
 def by_every_plan(storm, hours):
     """Cost, how many and the earliest, by trying each plan in the plans' order."""
-    ways = [(gate, pumped) for gate in (0, 1) for pumped in range(storm[3] + 1)]
+    return cheapest_of(storm, hours, plans_of(storm, hours))
+
+
+def shut_by_every_plan(storm, hours):
+    """What by_every_plan finds where each plan does what it would with all gates shut."""
     cheapest = None
-    for plan in product(ways, repeat=len(hours)):
-        cost = cost_of_plan(storm, hours, plan)
-        if cost is None:
-            continue
-        if cheapest is None or cost < cheapest[0]:
-            cheapest = [cost, 0] + [number for way in plan for number in way]
-        if cost == cheapest[0]:
-            cheapest[1] += 1
+    for plan in plans_of(storm, hours):
+        cost = cost_of_plan(storm, hours, [(0, pumped) for gate, pumped in plan])
+        cheapest = with_plan(cheapest, cost, plan)
     return [-6] if cheapest is None else cheapest
+
+
+def still_by_every_plan(storm, hours):
+    """What by_every_plan finds among the plans that pump nothing."""
+    plans = [plan for plan in plans_of(storm, hours) if sum(pumped for gate, pumped in plan) == 0]
+    return cheapest_of(storm, hours, plans)
+
+
+def needed_by_every_plan(storm, hours):
+    """The highest that the water comes in the plan in which that is the least."""
+    stands, low, high, pumps, width, salt = storm
+    raised = (stands, low, 60, pumps, width, salt)
+    needed = []
+    for plan in plans_of(storm, hours):
+        heights = heights_of_plan(raised, hours, plan)
+        if heights is not None:
+            needed.append(max([low, *heights]))
+    return [min(needed)] if needed else [-6]
+
+
+def cheapest_of(storm, hours, plans):
+    """Cost, how many and the earliest of these plans, which stand in their order."""
+    cheapest = None
+    for plan in plans:
+        cheapest = with_plan(cheapest, cost_of_plan(storm, hours, plan), plan)
+    return [-6] if cheapest is None else cheapest
+
+
+def with_plan(cheapest, cost, plan):
+    """The cheapest so far, with one plan more, or without it where it has no cost."""
+    if cost is None or cheapest is not None and cost > cheapest[0]:
+        return cheapest
+    if cheapest is None or cost < cheapest[0]:
+        return [cost, 1] + [number for way in plan for number in way]
+    return [cost, cheapest[1] + 1] + cheapest[2:]
 
 
 def cost_of_plan(storm, hours, plan):
@@ -50,6 +108,19 @@ def cost_of_plan(storm, hours, plan):
         height = came[0]
         cost += came[1]
     return cost
+
+
+def heights_of_plan(storm, hours, plan):
+    """The height behind each hour, or None if the plan can't be."""
+    heights = []
+    height = storm[0]
+    for hour, (gate, pumped) in zip(hours, plan):
+        came = after_hour(storm, hour, height, gate, pumped)
+        if came is None:
+            return None
+        height = came[0]
+        heights.append(height)
+    return heights
 
 
 def by_counting(storm, hours):
@@ -68,3 +139,19 @@ def by_counting(storm, hours):
         return [-6]
     cheapest = min(cost for height, cost in reached)
     return [cheapest, sum(plans for (height, cost), plans in reached.items() if cost == cheapest)]
+
+
+def needed_by_rising(storm, hours):
+    """The first high, from the low upward, with which any height is reached at the end."""
+    stands, low, high, pumps, width, salt = storm
+    for raised in range(low, 61):
+        reached = {stands}
+        for hour in hours:
+            came = [
+                after_hour((stands, low, raised, pumps, width, salt), hour, height, gate, pumped)
+                for height in reached for gate in (0, 1) for pumped in range(pumps + 1)
+            ]
+            reached = {way[0] for way in came if way is not None}
+        if reached:
+            return [raised]
+    return [-6]
